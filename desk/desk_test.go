@@ -14,7 +14,7 @@ func TestTold(t *testing.T) {
 		{"", ""}, {"\n\n\n", ""}, {"regs", ""}, {conf, ""}, {conf + "regs\n", ""},
 		{conf + "malloc 0 1 100\nwrite 1 00ff\nread 1 2\n", "bytes 00ff\n"}, {conf + "\n\nmalloc 0 1 100\n\nread 1 2", "bytes 0000\n"},
 		{"conf 160 5 60 2 4 4 2 8 4000 255\nmalloc 0 1 5\ncalloc 0 2 5 2\nread 1 5\nread 2 10\nread 1 6\nread 1 0\n", "bytes ffffffffff\nbytes 00000000000000000000\nerror 9\nbytes\n"},
-		{conf + "malloc 0 1 100\nwrite 1 \nread 1 1\n", "bytes 00\n"}, {conf + "malloc 1 1 100\nusable 1\nfree 1 1\nusable 1\n", "usable 112\nerror 7\n"},
+		{conf + "malloc 0 1 16\nwrite 1 0123456789abcdef90f0\nread 1 10\n", "bytes 0123456789abcdef90f0\n"}, {conf + "malloc 0 1 100\nwrite 1 \nread 1 1\n", "bytes 00\n"}, {conf + "malloc 1 1 100\nusable 1\nfree 1 1\nusable 1\n", "usable 112\nerror 7\n"},
 		{conf + "malloc 0 0 100\nmove 1 0 7\nbounds 2 1 5\nmove 3 2 -9\ndrop 4 3 18\ncopy 5 4\nregs\n", "reg 0 1 0 100 0 rwRWf\nreg 1 1 0 100 7 rwRWf\nreg 2 1 7 5 0 rwRWf\nreg 3 1 7 5 -9 rwRWf\nreg 4 1 7 5 -9 r-RW-\nreg 5 1 7 5 -9 r-RW-\n"},
 		{conf + "malloc 0 0 100\nmalloc 0 1 9\nwrite 1 0a0b\nstore 0 1\nload 2 0\nread 2 2\nrealloc 1 0 0 20\nclear 1\nload 1 0\nregs\n", "bytes 0a0b\nreg 0 3 0 20 0 rwRWf\nreg 1 2 0 9 0 rwRWf\nreg 2 2 0 9 0 rwRWf\n"},
 		{conf + "aligned 0 0 64 5\nusable 0\naligned 0 0 48 5\naligned 0 0 512 5\n", "usable 192\nerror 1\nerror 1\n"},

@@ -191,6 +191,28 @@ func TestSame(t *testing.T) {
 	}
 }
 
+func TestSameInTheFirstGranule(t *testing.T) {
+	a, b := New(9), New(9)
+	a.Map(0, 2)
+	b.Map(0, 2)
+	a.Keep(0, granule)
+	b.Keep(0, make([]byte, 16))
+	if Same(a, b) {
+		t.Error("what is kept")
+	}
+	b.Keep(0, granule)
+	a.Keep(16, granule)
+	b.Keep(16, make([]byte, 16))
+	if Same(a, b) {
+		t.Error("what is kept behind")
+	}
+	b.Clear(1)
+	b.Keep(32, granule)
+	if Same(a, b) || Same(b, a) {
+		t.Error("where it is kept")
+	}
+}
+
 func TestNone(t *testing.T) {
 	var m *Mem
 	_, err := m.Read(of(0, 1))

@@ -111,6 +111,22 @@ func TestBytesAndKept(t *testing.T) {
 	}
 }
 
+func TestEdges(t *testing.T) {
+	m := New(good())
+	for i, x := range []struct {
+		o   api.Op
+		err api.Errno
+	}{
+		{api.Op{Kind: api.OpCalloc, N: 1 << 32, M: 1 << 32}, api.ErrBig}, {api.Op{Kind: api.OpCalloc, N: math.MaxInt, M: math.MaxInt}, api.ErrBig}, {api.Op{Kind: api.OpCalloc, N: 2, M: 2000}, 0}, {api.Op{Kind: api.OpCalloc, N: 2, M: 2001}, api.ErrBig},
+		{api.Op{Kind: api.OpMove, N: api.MaxOff}, 0}, {api.Op{Kind: api.OpMove, N: api.MaxOff + 1}, api.ErrBounds}, {api.Op{Kind: api.OpMove, N: -api.MaxOff}, 0}, {api.Op{Kind: api.OpMove, N: -api.MaxOff - 1}, api.ErrBounds}, {api.Op{Kind: api.OpMove}, 0},
+		{api.Op{Kind: api.OpRealloc, N: 4001}, api.ErrBig}, {api.Op{Kind: api.OpRealloc, N: 4000}, 0}, {api.Op{Kind: api.OpRealloc, N: 1}, 0}, {api.Op{Kind: api.OpRealloc, N: 0}, api.ErrInput},
+	} {
+		if r := m.Do(x.o, false); r.Err != x.err {
+			t.Error(i, x.o, r)
+		}
+	}
+}
+
 func TestWhatIsTheCallers(t *testing.T) {
 	m := New(good())
 	b := []byte("abc")

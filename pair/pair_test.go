@@ -115,6 +115,16 @@ func TestUnlikeResult(t *testing.T) {
 	}
 }
 
+func TestUnlikeErrorAlone(t *testing.T) {
+	p := made(t)
+	p.Do(api.Op{Kind: api.OpMalloc, N: 20})
+	c, _ := p.H.Get(0)
+	p.H.M.Write(c.Base-16, []byte{1})
+	if r := p.Do(api.Op{Kind: api.OpFree}); r.Err != api.ErrCorrupt || p.Bad() != api.UnlikeResult|api.UnlikeRegs {
+		t.Error(r, p.Bad())
+	}
+}
+
 func TestUnlikeRegs(t *testing.T) {
 	for i, change := range []func(c *api.Cap){
 		func(c *api.Cap) { c.Cur++ }, func(c *api.Cap) { c.Perm = 30 }, func(c *api.Cap) { c.Len-- }, func(c *api.Cap) { c.Base++; c.Cur++ }, func(c *api.Cap) { c.Base += 16; c.Cur += 16 }, func(c *api.Cap) { *c = api.Cap{} },

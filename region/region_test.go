@@ -122,6 +122,10 @@ func TestPagesAreLeft(t *testing.T) {
 	if l, err = r.Take(c, d); err != api.ErrPages || l != nil || c.M.Used() != 5 || c.M.Peak() != 5 || r.Made() != 1 {
 		t.Error(l, err)
 	}
+	just := chunks(5)
+	if l, err := New(19, api.Area{Pages: 16}, 4).Take(just, d); err != 0 || len(l) != 1 || just.M.Used() != 5 {
+		t.Error("just as many", l, err)
+	}
 	if l, err = r.Take(chunk.Chunks{}, d); err != api.ErrPages || l != nil {
 		t.Error("no memory at all", l, err)
 	}

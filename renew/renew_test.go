@@ -128,6 +128,30 @@ func TestKept(t *testing.T) {
 	}
 }
 
+func TestKeptBehind(t *testing.T) {
+	h := made(t)
+	c, other := get(t, h, 64), get(t, h, 30)
+	for _, off := range []int{16, 32} {
+		at, _ := derive.Move(c, off)
+		h.Store(at, other)
+	}
+	// just two granules: the one behind goes
+	to, err := Realloc(h, 0, c, 32)
+	if err != 0 || h.M.Caps() != 3 {
+		t.Fatal(err, h.M.Caps())
+	}
+	at, _ := derive.Move(to, 16)
+	if v, err := h.Load(at); v != other || err != 0 {
+		t.Error(v, err)
+	}
+	if v, err := h.Load(to); v != (api.Cap{}) || err != 0 {
+		t.Error(v, err)
+	}
+	if to, err = Realloc(h, 0, to, 4000); err != 0 || to.Len != 4000 {
+		t.Error("as many as there may be", err)
+	}
+}
+
 func TestErrors(t *testing.T) {
 	h := made(t)
 	c := get(t, h, 40)

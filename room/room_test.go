@@ -103,6 +103,26 @@ func TestLarge(t *testing.T) {
 	if !Formula(h, 2000) || Formula(h, 4000) || !Sure(h, 4000) {
 		t.Error("with both")
 	}
+	h = made(t, func(c *api.Conf) { c.Large = 40 })
+	a, _ := h.Malloc(0, 2000)
+	b, _ := h.Malloc(0, 2000)
+	give.Free(h, 0, a)
+	give.Free(h, 0, b)
+	h.Start()
+	h.Step(math.MaxInt)
+	// two on the shelf: 40 - 20 > 3 * (need + 1): for 5 pages, not for 6
+	if !Formula(h, 5*256-16) || Formula(h, 5*256-15) {
+		t.Error("each on the shelf is a hole more")
+	}
+	h = made(t, func(c *api.Conf) { c.Large = 43 })
+	a, _ = h.Malloc(0, 3000)
+	give.Free(h, 0, a)
+	h.Start()
+	h.Step(math.MaxInt)
+	// 12 pages with two guards: 43 - 14 > 2 * (need + 1): for 13 pages, not for 14
+	if !Formula(h, 13*256-16) || Formula(h, 13*256-15) {
+		t.Error("guards of what is on the shelf")
+	}
 	none := made(t, func(c *api.Conf) { c.Large = 0 })
 	if Sure(none, 2000) || Formula(none, 2000) || !Sure(none, 1) {
 		t.Error("no pages for large ones")

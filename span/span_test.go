@@ -81,7 +81,7 @@ func TestOf(t *testing.T) {
 	if Of(0, 1) != of(0, 256) || Of(3, 2) != of(768, 512) || Of(0, api.MaxPages) != of(0, api.MaxBytes) || Of(api.MaxPages-1, 1) != of(api.MaxBytes-256, 256) {
 		t.Error("of pages")
 	}
-	for _, x := range [][2]int{{-1, 1}, {0, 0}, {0, -1}, {0, api.MaxPages + 1}, {api.MaxPages, 1}, {api.MaxPages, 0}, {1, math.MaxInt}, {math.MaxInt, 1}, {math.MinInt, math.MaxInt}, {1 << 56, 1}} {
+	for _, x := range [][2]int{{-1, 1}, {0, 0}, {0, -1}, {0, api.MaxPages + 1}, {1, api.MaxPages}, {api.MaxPages - 1, 2}, {api.MaxPages, 1}, {api.MaxPages, 0}, {1, math.MaxInt}, {math.MaxInt, 1}, {math.MinInt, math.MaxInt}, {1 << 56, 1}} {
 		if Of(x[0], x[1]) != (api.Span{}) {
 			t.Error(x)
 		}

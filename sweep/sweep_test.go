@@ -121,6 +121,20 @@ func TestKnown(t *testing.T) {
 	}
 }
 
+func TestKnownInTheFirstGranule(t *testing.T) {
+	m := mem.New(2)
+	m.Map(0, 1)
+	m.Keep(0, code.Bytes(one(100, 5)))
+	if !Known(m, nil, of(104, 1)) || Known(m, nil, of(105, 1)) {
+		t.Error("kept in the first granule")
+	}
+	p := paint.New()
+	p.Put(of(100, 1))
+	if s := New(m, nil); s.Step(m, nil, p, 1) != 1 || s.Gone() != 1 || s.Work() != 16 {
+		t.Error("no registers")
+	}
+}
+
 func TestNone(t *testing.T) {
 	var s *Sweep
 	m, r, p := place()
