@@ -4,10 +4,13 @@ import (
 	"bytes"
 	"cubbyhole/api"
 	"cubbyhole/audit"
+	"cubbyhole/client"
+	"cubbyhole/drill"
 	"cubbyhole/give"
 	"cubbyhole/head"
 	"cubbyhole/heap"
 	"math"
+	"slices"
 	"testing"
 )
 
@@ -140,6 +143,52 @@ func TestOthersStay(t *testing.T) {
 	}
 	if got, err := h.Read(b, 3); err != 0 || string(got) != "abc" || give.Free(h, 0, b) != 0 {
 		t.Error(got, err)
+	}
+}
+
+// Promise T4, by what is drawn: as long as headers are bent, chunks that have other ones are as the model tells, and nobody gets a bent one.
+func TestBentAmongOthers(t *testing.T) {
+	found := 0
+	for seed := range uint64(40) {
+		d := drill.New(seed)
+		c := d.Conf(true)
+		h, _ := heap.New(c, nil)
+		bent := map[int][]byte{}
+		for _, o := range d.Ops(c, 400) {
+			told := client.Do(h, o)
+			if told.Err == api.ErrCorrupt {
+				found++
+			}
+			if got, _ := h.Get(o.A); told.Err == 0 && (o.Kind == api.OpMalloc || o.Kind == api.OpCalloc || o.Kind == api.OpRealloc) && bent[got.Base] != nil {
+				t.Fatal(seed, "given out", got)
+			}
+			if b, _ := h.Get(o.B); told.Err == 0 && o.Kind == api.OpUsable && bent[b.Base] != nil {
+				t.Fatal(seed, "taken for one", b)
+			}
+			if x, ok := Any(h, d.Below(1000)); ok && d.Below(12) == 0 && bent[x.At] == nil {
+				was, err := Bend(h, x.At, d.Below(16), byte(1+d.Below(255)))
+				if err != 0 || !Found(h, x.At) {
+					if Mend(h, x.At, was) != 0 {
+						t.Fatal(seed, x)
+					}
+					continue // its sum was the same
+				}
+				bent[x.At] = was
+			}
+			l, _ := audit.Chunks(h)
+			for at := range bent {
+				// its pages were unmapped: then it is made anew
+				if !slices.ContainsFunc(l, func(x api.Chunk) bool { return x.At == at }) {
+					delete(bent, at)
+				}
+			}
+			if sum := audit.Check(h); sum&(api.WrongTag|api.WrongKnown|api.WrongLap) != 0 {
+				t.Fatal(seed, o, sum)
+			}
+		}
+	}
+	if found < 100 {
+		t.Error("seldom found", found)
 	}
 }
 
